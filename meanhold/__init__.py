@@ -1,0 +1,1 @@
+"""Meanhold: the greatest gain per step in the long run."""

@@ -1,0 +1,51 @@
+"""The examples of the interface, as they stand there."""
+
+import doctest
+import unittest
+from pathlib import Path
+
+PLAYS = '''
+>>> from meanhold.plays import gain_per_step, play_of, unrolled
+>>> game = [((1, 1), "ours", [1, 0]), ((-1, 2), "theirs", [2, 0]), ((3, 1), "ours", [1])]
+>>> play_of(game, 0, ours=[0, None, 0], theirs=[None, 0, None])
+([0], [0, 0])
+>>> gain_per_step(game, 0, [0], [0, 0])
+(5, 4)
+>>> unrolled(game, 0, [1, 0, 0, 0, 1, 1])
+([], [(0, [1]), (1, [0, 0]), (0, [0, 1]), (0, [1])])
+'''
+
+LEADS = '''
+>>> from meanhold.leads import leads, long_gains
+>>> chain = [((4, 1), "draw", [((1, 1), 1)]), ((0, 1), "draw", [((1, 2), 0), ((1, 2), 1)])]
+>>> long_gains(chain)
+[(4, 3), (4, 3)]
+>>> leads(chain)
+[(16, 9), (-8, 9)]
+'''
+
+IMPORT = '''
+>>> from meanhold.games import check_game
+'''
+
+
+class Examples(unittest.TestCase):
+    def run_example(self, text, many):
+        example = doctest.DocTestParser().get_doctest(text, {}, "example", None, None)
+        told = []
+        results = doctest.DocTestRunner().run(example, out=told.append)
+        self.assertEqual(results.failed, 0, "".join(told))
+        self.assertEqual(results.attempted, many)
+
+    def test_plays(self):
+        self.run_example(PLAYS, 5)
+
+    def test_leads(self):
+        self.run_example(LEADS, 4)
+
+    def test_import(self):
+        self.run_example(IMPORT, 1)
+
+    def test_readme(self):
+        readme = Path(__file__).parent.parent / "README.md"
+        self.run_example(readme.read_text(encoding="utf-8").replace("```", ""), 7)

@@ -1,0 +1,48 @@
+"""The interface: names, arguments and the files in which they are defined."""
+
+import importlib
+import inspect
+import unittest
+
+SIGNATURES = {
+    "meanhold.games": {
+        "check_game": "(game)",
+        "with_strategy": "(game, side, strategy)",
+    },
+    "meanhold.plays": {
+        "places_on": "(game, start, branches)",
+        "sum_of": "(game, start, branches)",
+        "chance_of": "(game, start, branches)",
+        "gain_per_step": "(game, start, beginning, circle)",
+        "follows": "(game, start, branches, *, side, strategy)",
+        "unrolled": "(game, start, branches)",
+        "play_of": "(game, start, *, ours, theirs)",
+    },
+    "meanhold.leads": {
+        "long_gains": "(chain)",
+        "leads": "(chain)",
+        "first_gains": "(chain, *, steps)",
+        "spread": "(chain)",
+        "ways_to": "(chain, place)",
+        "gains_on_ways": "(chain, place)",
+    },
+}
+CLASSES = ["GainError", "BadSize", "BadNumber", "BadKind", "BadChance", "BadTarget", "NoBranch",
+           "NoCircle", "NotRight", "NothingToUndo", "NothingToRedo", "BadEntry"]
+
+
+class Interface(unittest.TestCase):
+    def test_functions_stand_in_their_files_with_their_arguments(self):
+        for name, functions in SIGNATURES.items():
+            module = importlib.import_module(name)
+            for word, arguments in functions.items():
+                function = getattr(module, word)
+                self.assertTrue(inspect.isfunction(function))
+                self.assertEqual(function.__module__, name)
+                self.assertEqual(str(inspect.signature(function)), arguments, word)
+
+    def test_error_classes_stand_in_their_file(self):
+        module = importlib.import_module("meanhold.errors")
+        for word in CLASSES:
+            self.assertTrue(inspect.isclass(getattr(module, word)))
+            self.assertEqual(getattr(module, word).__module__, "meanhold.errors")
