@@ -45,17 +45,18 @@ def sure_to_reach(chain, place):
     return [x for x, places in enumerate(reached) if all([place in reached[y] for y in places])]
 
 
-def filled_in(chain, places, extra, known):
-    """The list f that is `known`, but at the places its extra and the mean of f there together.
+def filled_in(chain, places, extra, known, discount=ONE):
+    """The list f that is `known`, but at the places its extra and the discount times the mean of f there.
 
     `extra` and `known` are lists with a number for each place; `known` is 0 at
-    the places. The play comes out of the places with the chance 1: so there
-    is just one such f, and all leading minors of the equations are greater than 0.
+    the places. The discount is less than 1, or the play comes out of the
+    places with the chance 1: so there is just one such f, and all leading
+    minors of the equations are greater than 0.
     """
     scales = [_scale_of(chain[x]) for x in places]
-    rows = [_row_of(chain, x, places, scale) for x, scale in zip(places, scales)]
-    sums = [plus(extra[x], mean_at(chain[x], known)) for x in places]
-    constants = [times(number, (scale, 1)) for number, scale in zip(sums, scales)]
+    rows = [_row_of(chain, x, places, scale, discount) for x, scale in zip(places, scales)]
+    sums = [plus(extra[x], times(discount, mean_at(chain[x], known))) for x in places]
+    constants = [times(number, (scale * discount[1], 1)) for number, scale in zip(sums, scales)]
     found = list(known)
     for x, number in zip(places, solved(rows, constants)):
         found[x] = number
@@ -79,10 +80,14 @@ def _scale_of(draw):
     return common_denominator([chance for chance, _ in draw[2]])
 
 
-def _row_of(chain, x, places, scale):
-    """The coefficients of f(x) less the mean of f at x, times the scale, at the places."""
-    row = [scale if y == x else 0 for y in places]
+def _row_of(chain, x, places, scale, discount):
+    """The coefficients, at the places, of f(x) less the discount times the mean of f at x.
+
+    They are multiplied by the scale and by the d of the discount, which makes them whole.
+    """
+    n, d = discount
+    row = [scale * d if y == x else 0 for y in places]
     for chance, target in chain[x][2]:
         if target in places:
-            row[places.index(target)] -= whole_at(chance, scale)
+            row[places.index(target)] -= n * whole_at(chance, scale)
     return row

@@ -51,6 +51,12 @@ def divided(a, b):
     return lowest(a[0] * b[1], a[1] * b[0])
 
 
+def negative(a):
+    """The number with the other sign."""
+    n, d = a
+    return (-n, d)
+
+
 def total(numbers):
     """The sum of a list of numbers."""
     found = ZERO
@@ -80,6 +86,11 @@ def least(numbers):
         if is_less(number, found):
             found = number
     return found
+
+
+def width(numbers):
+    """The greatest number of a list that is not empty less the least one."""
+    return minus(greatest(numbers), least(numbers))
 
 
 def common_denominator(numbers):

@@ -1,8 +1,9 @@
 """Chains in the long run: long gains, leads, first gains and ways to a place."""
 
 from meanhold.chains import filled_in, groups_of, mean_in_group, passing_places, sure_to_reach
-from meanhold.exact import ONE, ZERO, common_denominator, greatest, least, lowest, minus, whole_at
+from meanhold.exact import ONE, ZERO, minus, width
 from meanhold.places import gains_of
+from meanhold.stepping import worths_after
 
 
 def long_gains(chain):
@@ -32,22 +33,12 @@ def leads(chain):
 
 def first_gains(chain, *, steps):
     """Returns the first gains of so many steps (point 11)."""
-    # Over one denominator, and reduced at the end alone: the numbers grow with each step.
-    unit = common_denominator(gains_of(chain))
-    scale = common_denominator([chance for _, _, branches in chain for chance, _ in branches])
-    gains = [whole_at(gain, unit) for gain in gains_of(chain)]
-    sums = [0] * len(chain)
-    for _ in range(steps):
-        unit = unit * scale
-        gains = [gain * scale for gain in gains]
-        sums = [gain + _scaled_mean(place, sums, scale) for gain, place in zip(gains, chain)]
-    return [lowest(n, unit) for n in sums]
+    return worths_after(chain, ONE, steps)
 
 
 def spread(chain):
     """Returns the spread (point 13)."""
-    found = leads(chain)
-    return minus(greatest(found), least(found))
+    return width(leads(chain))
 
 
 def ways_to(chain, place):
@@ -58,10 +49,6 @@ def ways_to(chain, place):
 def gains_on_ways(chain, place):
     """Returns the list of the gains on the ways to the place, None likewise (point 14)."""
     return _sums_until(chain, place, gains_of(chain))
-
-
-def _scaled_mean(draw, sums, scale):
-    return sum([whole_at(chance, scale) * sums[target] for chance, target in draw[2]])
 
 
 def _sums_until(chain, place, numbers):

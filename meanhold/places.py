@@ -1,6 +1,6 @@
 """What a single place of a game tells: its gain, its branches, its targets, its mean."""
 
-from meanhold.exact import is_whole, times, total
+from meanhold.exact import greatest, is_whole, least, times, total
 
 
 def gains_of(game):
@@ -24,3 +24,12 @@ def has_branch(place, number):
 def mean_at(draw, numbers):
     """The mean at a draw of a list with a number for each place (point 4)."""
     return total([times(chance, numbers[target]) for chance, target in draw[2]])
+
+
+def worth_at(place, numbers):
+    """The mean of the numbers at a draw, the greatest one of the targets at "ours", the least one at "theirs"."""
+    _, kind, branches = place
+    if kind == "draw":
+        return mean_at(place, numbers)
+    reached = [numbers[target] for target in branches]
+    return greatest(reached) if kind == "ours" else least(reached)

@@ -68,6 +68,13 @@ def number(value):
     return (value.numerator, value.denominator)
 
 
+def moved(rows, which, x, by):
+    """The rows with the number of the place x moved, in the first list (0) or in the second one (1)."""
+    found = [list(numbers) for numbers in rows]
+    found[which][x] = number(Fraction(*found[which][x]) + by)
+    return tuple(found)
+
+
 def draw(gain, *branches):
     """A draw whose chances are written as strings, such as "1/3"."""
     return (number(gain), "draw", [(number(chance), target) for chance, target in branches])

@@ -6,9 +6,9 @@ from tests import reckoning
 from tests.support import Case, draw, number, way_on
 
 from meanhold.exact import (common_denominator, divided, greatest, is_less, is_short, is_whole, least, lowest, minus,
-                            plus, times, total, whole_at)
+                            negative, plus, times, total, whole_at, width)
 from meanhold.linear import solved
-from meanhold.places import mean_at
+from meanhold.places import mean_at, worth_at
 
 LONG = Fraction(3 ** 400, 7 ** 350)
 VALUES = [Fraction(n, d) for n in range(-6, 7) for d in range(1, 6)] + [LONG, -LONG, 1 / LONG, Fraction(7 ** 90)]
@@ -37,6 +37,11 @@ class Numbers(Case):
         for many in range(1, len(numbers)):
             self.assertEqual(greatest(numbers[:many]), number(max(VALUES[:many])))
             self.assertEqual(least(numbers[:many]), number(min(VALUES[:many])))
+            self.assertEqual(width(numbers[:many]), number(max(VALUES[:many]) - min(VALUES[:many])))
+
+    def test_the_other_sign(self):
+        for a in VALUES:
+            self.assertEqual(self.exact(negative(number(a))), -a)
 
     def test_totals(self):
         self.assertEqual(total([]), (0, 1))
@@ -64,6 +69,14 @@ class Means(Case):
         self.assertEqual(self.asked(mean_at, draw(9, ("1/2", 0), ("1/3", 1), ("1/6", 2)), numbers), (61, 60))
         self.assertEqual(self.asked(mean_at, draw(9, ("1/2", 1), ("1/2", 1)), numbers), (3, 1))
         self.assertEqual(self.asked(mean_at, way_on(9, 2), numbers), (-7, 5))
+
+    def test_the_worth_at_a_place(self):
+        numbers = [(1, 2), (3, 1), (-7, 5)]
+        self.assertEqual(self.asked(worth_at, draw(9, ("1/2", 0), ("1/3", 1), ("1/6", 2)), numbers), (61, 60))
+        self.assertEqual(self.asked(worth_at, ((9, 1), "ours", [0, 2, 0]), numbers), (1, 2))
+        self.assertEqual(self.asked(worth_at, ((9, 1), "ours", [2, 1, 0]), numbers), (3, 1))
+        self.assertEqual(self.asked(worth_at, ((9, 1), "theirs", [0, 1, 0]), numbers), (1, 2))
+        self.assertEqual(self.asked(worth_at, ((9, 1), "theirs", [1, 2, 0]), numbers), (-7, 5))
 
 
 class Equations(Case):

@@ -24,6 +24,27 @@ LEADS = '''
 [(16, 9), (-8, 9)]
 '''
 
+DISCOUNTS = '''
+>>> from meanhold.discounts import discounted_worths
+>>> discounted_worths([((1, 1), "ours", [0, 1]), ((3, 1), "draw", [((1, 1), 0)])], discount=(1, 2))
+[(10, 3), (14, 3)]
+'''
+
+AGAINST = '''
+>>> from meanhold.against import is_lower, least_against
+>>> game = [((4, 1), "ours", [0, 1]), ((-2, 1), "theirs", [0, 1])]
+>>> least_against(game, [0, None])[0][0], least_against(game, [1, None])[0][0]
+([(4, 1), (-2, 1)], [(-2, 1), (-2, 1)])
+>>> is_lower(game, ([(4, 1), (-2, 1)], [(6, 1), (0, 1)]), ours=[0, None])
+True
+'''
+
+MEANS = '''
+>>> from meanhold.means import values
+>>> values([((0, 1), "ours", [1, 2]), ((6, 1), "theirs", [0, 1]), ((5, 2), "draw", [((1, 2), 2), ((1, 2), 0)])])
+[(3, 1), (3, 1), (3, 1)]
+'''
+
 IMPORT = '''
 >>> from meanhold.games import check_game
 '''
@@ -43,9 +64,18 @@ class Examples(unittest.TestCase):
     def test_leads(self):
         self.run_example(LEADS, 4)
 
+    def test_discounts(self):
+        self.run_example(DISCOUNTS, 2)
+
+    def test_against(self):
+        self.run_example(AGAINST, 4)
+
+    def test_means(self):
+        self.run_example(MEANS, 2)
+
     def test_import(self):
         self.run_example(IMPORT, 1)
 
     def test_readme(self):
         readme = Path(__file__).parent.parent / "README.md"
-        self.run_example(readme.read_text(encoding="utf-8").replace("```", ""), 7)
+        self.run_example(readme.read_text(encoding="utf-8").replace("```", ""), 15)

@@ -26,6 +26,38 @@ SIGNATURES = {
         "ways_to": "(chain, place)",
         "gains_on_ways": "(chain, place)",
     },
+    "meanhold.discounts": {
+        "discounted_worths": "(game, *, discount)",
+        "are_worths": "(game, numbers, *, discount)",
+        "discounted_strategies": "(game, *, discount)",
+        "worths_of_steps": "(game, *, discount, steps)",
+        "rest_of": "(game, *, discount, steps)",
+        "steps_for": "(game, *, discount, error)",
+    },
+    "meanhold.against": {
+        "are_rows": "(game, rows)",
+        "is_lower": "(game, rows, *, ours)",
+        "is_upper": "(game, rows, *, theirs)",
+        "least_against": "(game, ours)",
+        "greatest_against": "(game, theirs)",
+        "shows_least": "(game, rows, *, ours, theirs)",
+        "shows_greatest": "(game, rows, *, ours, theirs)",
+    },
+    "meanhold.means": {
+        "values": "(game)",
+        "answer_of": "(game)",
+        "check_answer": "(game, answer)",
+        "is_best": "(game, strategy, *, side)",
+        "lifted": "(answer, *, by, plus)",
+        "lift_needed": "(game, answer)",
+    },
+    "meanhold.slacks": {
+        "slacks": "(game, rows)",
+        "tight_branches": "(game, rows)",
+        "sums_at_least": "(rows, place, count)",
+        "sums_at_most": "(rows, place, count)",
+        "steps_for": "(rows, *, near)",
+    },
 }
 CLASSES = ["GainError", "BadSize", "BadNumber", "BadKind", "BadChance", "BadTarget", "NoBranch",
            "NoCircle", "NotRight", "NothingToUndo", "NothingToRedo", "BadEntry"]
