@@ -1,6 +1,6 @@
 """Games in which later gains count less: their worths with a discount."""
 
-from meanhold.exact import ONE, divided, greatest, is_less, minus, plus, times
+from meanhold.exact import ONE, ZERO, divided, greatest, is_less, minus, plus, times
 from meanhold.improving import best_branches, first_choices, settled
 from meanhold.places import gains_of, worth_at
 from meanhold.stepping import worths_after
@@ -30,7 +30,7 @@ def discounted_strategies(game, *, discount):
 
 def worths_of_steps(game, *, discount, steps):
     """Returns the discounted worths of so many steps (point 19)."""
-    return worths_after(game, discount, steps)
+    return worths_after(game, discount, [ZERO] * len(game), steps)
 
 
 def rest_of(game, *, discount, steps):

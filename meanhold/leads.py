@@ -33,7 +33,7 @@ def leads(chain):
 
 def first_gains(chain, *, steps):
     """Returns the first gains of so many steps (point 11)."""
-    return worths_after(chain, ONE, steps)
+    return worths_after(chain, ONE, [ZERO] * len(chain), steps)
 
 
 def spread(chain):

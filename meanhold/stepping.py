@@ -4,19 +4,19 @@ from meanhold.exact import common_denominator, lowest, whole_at
 from meanhold.places import gains_of, targets_of
 
 
-def worths_after(game, discount, steps):
-    """The list of the worths of so many steps; the discount may also be 1.
+def worths_after(game, discount, start, steps):
+    """The list of the worths of so many steps from starting worths; the discount may also be 1.
 
-    They are 0 for no steps; with each step more the worth of a place is its gain and, times
-    the discount, the mean of the worths at a draw, the greatest one of its targets at "ours",
-    the least one at "theirs".
+    They are the starting worths for no steps; with each step more the worth of a place is its
+    gain and, times the discount, the mean of the worths at a draw, the greatest one of its
+    targets at "ours", the least one at "theirs".
     """
     # Over one denominator, and reduced at the end alone: the numbers grow with each step.
     n, d = discount
-    unit = common_denominator(gains_of(game))
+    unit = common_denominator(gains_of(game) + start)
     scale = common_denominator(_chances_of(game))
     gains = [whole_at(gain, unit) for gain in gains_of(game)]
-    worths = [0] * len(game)
+    worths = [whole_at(worth, unit) for worth in start]
     for _ in range(steps):
         unit = unit * scale * d
         gains = [gain * scale * d for gain in gains]

@@ -45,6 +45,48 @@ MEANS = '''
 [(3, 1), (3, 1), (3, 1)]
 '''
 
+ROUNDS = '''
+>>> from meanhold.rounds import best_moves, bracket, worths
+>>> game = [((3, 1), "ours", [0, 1]), ((0, 1), "theirs", [0, 2]), ((5, 1), "draw", [((1, 2), 0), ((1, 2), 2)])]
+>>> worths(game, 2)
+[(6, 1), (3, 1), (9, 1)]
+>>> best_moves(game, 0, 3), best_moves(game, 1, 3)
+([0], [0])
+>>> bracket(game, 1)
+((3, 1), (4, 1))
+'''
+
+RINGS = '''
+>>> from meanhold.rings import greatest_ring, shows_no_greater
+>>> game = [((4, 1), "ours", [1, 0]), ((7, 1), "draw", [((1, 1), 2)]), ((3, 1), "ours", [0, 1])]
+>>> sorted(greatest_ring(game, 0))
+[1, 2]
+>>> shows_no_greater(game, 0, (5, 1), [(0, 1), (1, 1), (-1, 1)])
+True
+'''
+
+STORES = '''
+>>> from meanhold.stores import boxed_stores, is_enough, least_stores, stores_for
+>>> game = [((-3, 1), "ours", [1, 2]), ((2, 1), "theirs", [0, 1]), ((-1, 1), "draw", [((1, 2), 0), ((1, 2), 1)]), ((4, 1), "ours", [0])]
+>>> least_stores(game)
+[None, None, None, None]
+>>> stores_for(game, 3)
+[4, 1, 4, 0]
+>>> least_stores([((-3, 1), "ours", [1]), ((4, 1), "theirs", [0, 1])])
+[3, 0]
+>>> boxed_stores([((-3, 1), "ours", [1]), ((4, 1), "theirs", [0, 1])], 2)
+[None, None]
+'''
+
+SURELY = '''
+>>> from meanhold.surely import bands, sure_gains_of
+>>> game = [((0, 1), "ours", [1, 2]), ((1, 1), "draw", [((1, 2), 1), ((1, 2), 2)]), ((0, 1), "draw", [((1, 1), 1)])]
+>>> bands(game)
+[((1, 2), (2, 3), (1, 1)), ((1, 2), (2, 3), (1, 1)), ((1, 2), (2, 3), (1, 1))]
+>>> sure_gains_of(game, [0, None, None])
+[(1, 2), (1, 2), (1, 2)]
+'''
+
 IMPORT = '''
 >>> from meanhold.games import check_game
 '''
@@ -73,9 +115,21 @@ class Examples(unittest.TestCase):
     def test_means(self):
         self.run_example(MEANS, 2)
 
+    def test_rounds(self):
+        self.run_example(ROUNDS, 5)
+
+    def test_rings(self):
+        self.run_example(RINGS, 4)
+
+    def test_stores(self):
+        self.run_example(STORES, 6)
+
+    def test_surely(self):
+        self.run_example(SURELY, 4)
+
     def test_import(self):
         self.run_example(IMPORT, 1)
 
     def test_readme(self):
         readme = Path(__file__).parent.parent / "README.md"
-        self.run_example(readme.read_text(encoding="utf-8").replace("```", ""), 15)
+        self.run_example(readme.read_text(encoding="utf-8").replace("```", ""), 20)

@@ -58,6 +58,38 @@ SIGNATURES = {
         "sums_at_most": "(rows, place, count)",
         "steps_for": "(rows, *, near)",
     },
+    "meanhold.rounds": {
+        "worths": "(game, steps)",
+        "worths_from": "(game, start, steps)",
+        "best_moves": "(game, place, steps)",
+        "bracket": "(game, steps)",
+        "steps_to": "(game, place, amount)",
+    },
+    "meanhold.rings": {
+        "is_ours_alone": "(game)",
+        "is_ring": "(game, places)",
+        "ring_mean": "(game, ring)",
+        "greatest_ring": "(game, place)",
+        "potentials_for": "(game, place)",
+        "shows_no_greater": "(game, place, mean, potentials)",
+    },
+    "meanhold.stores": {
+        "least_stores": "(game)",
+        "stores_for": "(game, steps)",
+        "is_enough": "(game, stores)",
+        "boxed_stores": "(game, size)",
+        "keeping": "(game)",
+    },
+    "meanhold.surely": {
+        "against_us": "(game)",
+        "for_us": "(game)",
+        "sure_gains": "(game)",
+        "hoped_gains": "(game)",
+        "bands": "(game)",
+        "sure_strategy": "(game)",
+        "sure_gains_of": "(game, ours)",
+        "firm_places": "(game)",
+    },
 }
 CLASSES = ["GainError", "BadSize", "BadNumber", "BadKind", "BadChance", "BadTarget", "NoBranch",
            "NoCircle", "NotRight", "NothingToUndo", "NothingToRedo", "BadEntry"]

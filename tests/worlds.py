@@ -63,6 +63,25 @@ def slow_game(seed):
     return game
 
 
+def whole_game(seed, most):
+    """A small game whose gains are whole numbers up to `most` in absolute value."""
+    dice = Dice(seed + 1700)
+    game = small_game(seed + dice.below(900))
+    return [(number(dice.below(2 * most + 1) - most + dice.below(2)), kind, branches) for _, kind, branches in game]
+
+
+def lone_game(seed):
+    """A game that is ours alone."""
+    dice = Dice(seed + 2300)
+    many = 1 + dice.below(7)
+    game = []
+    for x in range(many):
+        near = [y for y in range(many) if y >= x - 1 - dice.below(3)]
+        listed = [near[dice.below(len(near))] for _ in range(1 + dice.below(3))]
+        game.append((dice.gain(), "ours", listed) if dice.below(4) else way_on(dice.below(9) - 4, listed[0]))
+    return game
+
+
 DISCOUNTS = [(1, 2), (99, 100), (1, 100), (9, 10), (100003, 100019)]
 LONG_DISCOUNT = (10 ** 60, 10 ** 60 + 7)
 
