@@ -30,17 +30,17 @@ def steps_for(rows, *, near):
     return max(1, -(-n // d))
 
 
+def slack_of(gain, here, behind):
+    """The slack of a step with this gain; the pairs tell the numbers of the rows here and behind it."""
+    return (minus(behind[0], here[0]), minus(plus(gain, behind[1]), plus(here[0], here[1])))
+
+
 def _slacks_at(place, x, rows):
     gain, kind, branches = place
     gains, leads = rows
     if kind == "draw":
-        return _slack(gain, (gains[x], leads[x]), (mean_at(place, gains), mean_at(place, leads)))
-    return [_slack(gain, (gains[x], leads[x]), (gains[y], leads[y])) for y in branches]
-
-
-def _slack(gain, here, behind):
-    """The slack of a step with this gain; the pairs tell the numbers of the rows here and behind it."""
-    return (minus(behind[0], here[0]), minus(plus(gain, behind[1]), plus(here[0], here[1])))
+        return slack_of(gain, (gains[x], leads[x]), (mean_at(place, gains), mean_at(place, leads)))
+    return [slack_of(gain, (gains[x], leads[x]), (gains[y], leads[y])) for y in branches]
 
 
 def _tight_at(place, found):

@@ -42,7 +42,7 @@ class Bracket(Case):
 
     def test_it_is_never_wider_with_a_step_more(self):
         for game in KNOWN + SINGLES + SOME_CHAINS + MADE[:20] + FULL[:5]:
-            ends = [self.ends(game, steps) for steps in range(12)]
+            ends = [[self.exact(end) for end in bracket(game, steps)] for steps in range(31)]
             for (low, high), (lower, higher) in zip(ends, ends[1:]):
                 self.assertLessEqual(low, lower)
                 self.assertLessEqual(higher, high)

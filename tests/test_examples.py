@@ -87,6 +87,38 @@ SURELY = '''
 [(1, 2), (1, 2), (1, 2)]
 '''
 
+CHANGES = '''
+>>> from meanhold.changes import bend, mean_rise, price, values_for
+>>> game = [((0, 1), "ours", [0, 1]), ((2, 1), "draw", [((1, 2), 0), ((1, 2), 1)])]
+>>> values_for(game, 0, [(0, 1), (2, 1), (4, 1)], at=1)
+[(4, 3), (2, 1), (4, 1)]
+>>> mean_rise(game, 0, (0, 1), (2, 1), at=1), bend(game, 0, [(0, 1), (2, 1), (4, 1)], at=1)
+((1, 3), 1)
+>>> price(game, 0, (5, 2), at=1)
+3
+'''
+
+STAYS = '''
+>>> from meanhold.stays import stays
+>>> stays([((9, 1), "ours", [0, 1]), ((0, 1), "theirs", [0, 1])], [0], side="ours")
+[(1, 1), (0, 1)]
+'''
+
+LEDGER = '''
+>>> from meanhold.ledger import Ledger
+>>> game = [((0, 1), "ours", [0, 1]), ((2, 1), "draw", [((1, 2), 0), ((1, 2), 1)])]
+>>> answer = ([(4, 3), (4, 3)], [(0, 1), (4, 3)], [1, None], [None, None])
+>>> ledger = Ledger(game, answer, start=0)
+>>> ledger.step(1)
+('slip', (0, 1), (0, 1))
+>>> ledger.step(0)
+('luck', (-2, 3), (0, 1))
+>>> ledger.step(0)
+('slip', (-4, 3), (0, 1))
+>>> ledger.gains(), ledger.due(), ledger.lead()
+((2, 1), (4, 1), (0, 1))
+'''
+
 IMPORT = '''
 >>> from meanhold.games import check_game
 '''
@@ -127,9 +159,18 @@ class Examples(unittest.TestCase):
     def test_surely(self):
         self.run_example(SURELY, 4)
 
+    def test_changes(self):
+        self.run_example(CHANGES, 5)
+
+    def test_stays(self):
+        self.run_example(STAYS, 2)
+
+    def test_ledger(self):
+        self.run_example(LEDGER, 8)
+
     def test_import(self):
         self.run_example(IMPORT, 1)
 
     def test_readme(self):
         readme = Path(__file__).parent.parent / "README.md"
-        self.run_example(readme.read_text(encoding="utf-8").replace("```", ""), 20)
+        self.run_example(readme.read_text(encoding="utf-8").replace("```", ""), 29)

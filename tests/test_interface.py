@@ -90,6 +90,47 @@ SIGNATURES = {
         "sure_gains_of": "(game, ours)",
         "firm_places": "(game)",
     },
+    "meanhold.changes": {
+        "with_gain": "(game, place, gain)",
+        "with_gains_added": "(game, additions)",
+        "values_for": "(game, place, gains, *, at)",
+        "mean_rise": "(game, place, first, second, *, at)",
+        "bend": "(game, place, gains, *, at)",
+        "price": "(game, place, goal, *, at)",
+    },
+    "meanhold.stays": {
+        "visiting": "(game, places)",
+        "stays": "(game, places, *, side)",
+        "weighed": "(game, places, *, weight)",
+    },
+    "meanhold.ledger": {
+        "replay": "(game, answer, journal, *, start)",
+    },
+    "meanhold.joining": {
+        "slowed": "(game, k)",
+        "in_turns": "(first, second)",
+        "shifted": "(game, number)",
+        "scaled": "(game, number)",
+        "turned_round": "(game)",
+        "rolled": "(chain, numbers)",
+    },
+}
+LEDGER = {
+    "__init__": "(self, game, answer, *, start)",
+    "__len__": "(self)",
+    "step": "(self, branch)",
+    "undo": "(self)",
+    "redo": "(self)",
+    "do_all": "(self, deeds)",
+    "way": "(self)",
+    "here": "(self)",
+    "gains": "(self)",
+    "due": "(self)",
+    "lead": "(self)",
+    "bookings": "(self, word)",
+    "shifts": "(self, word)",
+    "free_branches": "(self)",
+    "journal": "(self)",
 }
 CLASSES = ["GainError", "BadSize", "BadNumber", "BadKind", "BadChance", "BadTarget", "NoBranch",
            "NoCircle", "NotRight", "NothingToUndo", "NothingToRedo", "BadEntry"]
@@ -110,3 +151,14 @@ class Interface(unittest.TestCase):
         for word in CLASSES:
             self.assertTrue(inspect.isclass(getattr(module, word)))
             self.assertEqual(getattr(module, word).__module__, "meanhold.errors")
+
+    def test_the_ledger_defines_its_methods_itself(self):
+        ledger = importlib.import_module("meanhold.ledger").Ledger
+        self.assertEqual(ledger.__module__, "meanhold.ledger")
+        for word, arguments in LEDGER.items():
+            method = vars(ledger)[word]
+            self.assertTrue(inspect.isfunction(method))
+            self.assertEqual(str(inspect.signature(method)), arguments, word)
+        for word in ("can_undo", "can_redo"):
+            self.assertIsInstance(vars(ledger)[word], property)
+            self.assertIsNone(vars(ledger)[word].fset)
